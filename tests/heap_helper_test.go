@@ -113,16 +113,16 @@ func modelStep(p impl.Prog, h impl.Heap) impl.Heap {
 			return stuck
 		}
 	}
-	if word == "back" && out.Calls[taken[0].Num].Dead {
-		return stuck
-	}
-	if word == "call" && out.Born == 30 {
-		stuck.Code = 3
-		return stuck
-	}
 	now.Stack = now.Stack[:rest]
 	now.Pc++
-	modelDo(p, &out, word, op.A, taken)
+	switch {
+	case word == "call" && out.Born == 30:
+		out.Code = 3
+	case word == "back" && out.Calls[taken[0].Num].Dead:
+		out.Code = 2
+	default:
+		modelDo(p, &out, word, op.A, taken)
+	}
 	return out
 }
 
@@ -382,6 +382,10 @@ var heapTexts = []string{
 	"method 0 2\ncall 1\nset 0\ntemp 0\nnum 77\npoke 0\ntemp 0\npeek 0\nsay\ntemp 0\nwhere\nsay\ntemp 0\nret\nmethod 0 2\nnum 5\nset 0\nhere\nret\n",
 	// Back over several calls, to the first one, again and again.
 	"method 0 2\nhere\ncall 1\nset 1\ntemp 0\nzero 7\nnum 3\nret\nnum 1\nset 0\njump 0\nmethod 1 1\ntemp 0\ncall 2\nret\nmethod 1 1\ntemp 0\ncall 3\nret\nmethod 1 1\ntemp 0\nnum 9\nback\n",
+	// One that calls itself till no more can be born, with a value below its argument.
+	"method 0 0\nnum 2\ncall 1\nret\nmethod 1 1\nnum 8\ntemp 0\ncall 1\nadd\nret\n",
+	// Back to one that has returned, with a value below.
+	"method 0 1\nnum 7\ncall 1\nnum 4\nback\ndrop\nret\nmethod 0 0\nhere\nret\n",
 	// Back to one that has returned.
 	"method 0 1\ncall 1\nnum 4\nback\nret\nmethod 0 0\nhere\nret\n",
 	// Back to the call that runs itself.

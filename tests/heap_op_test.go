@@ -77,8 +77,26 @@ func stuckOp(t *testing.T, op string, stack ...impl.Val) {
 
 func refusedOp(t *testing.T, op string, h impl.Heap, code int) {
 	t.Helper()
-	p, want := opProg(t, op), copyHeap(h)
+	want := copyHeap(h)
 	want.Code = code
+	endsAs(t, op, h, want)
+}
+
+// takenOp asks for a code where the operation is done: its values are taken, Pc is one more, and nothing else changes.
+func takenOp(t *testing.T, op string, h impl.Heap, code int, left ...impl.Val) {
+	t.Helper()
+	want := copyHeap(h)
+	want.Code, want.Calls[nowCall].Pc, want.Calls[nowCall].Stack = code, 1, left
+	endsAs(t, op, h, want)
+}
+
+// endsAs asks that an ok heap is this one behind the operation, which stays so.
+func endsAs(t *testing.T, op string, h, want impl.Heap) {
+	t.Helper()
+	p := opProg(t, op)
+	if again, ok := impl.HeapRun(p, h, 400); !ok || !sameHeap(again, want) || !impl.HeapOk(p, want) {
+		t.Errorf("%s of %v: %v, %v in the end, not\n%v", op, h.Calls[nowCall].Stack, again, ok, want)
+	}
 	if got, ok := impl.HeapStep(p, h); !impl.HeapOk(p, h) || !ok || !sameHeap(got, want) {
 		t.Errorf("%s of %v: %v, %v, not\n%v", op, h.Calls[nowCall].Stack, got, ok, want)
 	}
@@ -201,12 +219,12 @@ func TestOpCall(t *testing.T) {
 	stuckOp(t, "call 2", a)
 }
 
-// With HeapBorn calls born it is CodeFull, and, as P10 asks, the call keeps its values and its place; one that is stuck is that first.
+// With HeapBorn calls born it is CodeFull: the arguments are taken, and Pc is one more; one that is stuck is that first, and nothing is taken.
 func TestOpCallAtHeapBorn(t *testing.T) {
-	for _, op := range []string{"call 0", "call 1", "call 2", "call 3"} {
+	for method, op := range []string{"call 0", "call 1", "call 2", "call 3"} {
 		h := opHeap(number(1), callVal(0), none)
 		h.Born = 30
-		refusedOp(t, op, h, 3)
+		takenOp(t, op, h, 3, vals(number(1), callVal(0), none)[:3-opProg(t, op).Methods[method].Args]...)
 		h.Born = 29
 		if got, ok := impl.HeapStep(opProg(t, op), h); !ok || got.Code != 0 || got.Born != 30 || got.Now != 5 {
 			t.Errorf("%s with 29 born: %v", op, got)
@@ -214,11 +232,41 @@ func TestOpCallAtHeapBorn(t *testing.T) {
 	}
 	full := opHeap(number(1))
 	full.Born = 30
+	takenOp(t, "call 1", full, 3)
 	refusedOp(t, "call 2", full, 2)
-	full = opHeap(slices.Repeat(vals(none), 6)...)
+	six := slices.Repeat(vals(none), 6)
+	full = opHeap(six...)
 	full.Born = 30
 	refusedOp(t, "call 0", full, 2)
-	refusedOp(t, "call 1", full, 3)
+	takenOp(t, "call 1", full, 3, six[:5]...)
+	takenOp(t, "call 2", full, 3, six[:4]...)
+}
+
+// Whole programs that are full, or go back to what has returned: how the call that runs is left.
+func TestTakenInWholePrograms(t *testing.T) {
+	for _, x := range []struct {
+		lines         []string
+		code, now, pc int
+		left          []impl.Val
+	}{
+		{[]string{"method 0 0", "call 0", "ret"}, 3, 29, 1, nil},
+		{[]string{"method 0 0", "call 0"}, 3, 29, 1, nil},
+		{[]string{"method 0 0", "num 5", "call 1", "ret", "method 1 1", "temp 0", "call 1", "ret"}, 3, 29, 2, nil},
+		{[]string{"method 0 0", "num 5", "num 6", "call 1", "ret", "method 2 2", "num 4", "temp 0", "temp 1", "call 1", "ret"}, 3, 29, 4, vals(number(4))},
+		{[]string{"method 0 0", "call 1", "drop", "jump 0", "method 0 0", "num 1", "ret"}, 3, 0, 1, nil},
+		{[]string{"method 0 1", "call 1", "num 9", "back", "ret", "method 0 0", "here", "ret"}, 2, 0, 3, nil},
+		{[]string{"method 0 1", "num 3", "call 1", "num 9", "back", "method 0 0", "here", "ret"}, 2, 0, 4, vals(number(3))},
+	} {
+		p := readProg(t, x.lines...)
+		h := ranHeap(t, p, 200)
+		if h.Code != x.code || h.Now != x.now || !impl.HeapOk(p, h) {
+			t.Errorf("%v: %v", x.lines, h)
+			continue
+		}
+		if c := h.Calls[x.now]; c.Pc != x.pc || !slices.Equal(c.Stack, x.left) {
+			t.Errorf("%v: %v", x.lines, c)
+		}
+	}
 }
 
 // leaves makes a call Dead.
@@ -349,10 +397,12 @@ func TestOpBack(t *testing.T) {
 			h.Now, h.Calls[firstCall].Stack = firstCall, vals(number(7), v)
 		})
 		for _, dead := range []int{deadCall, bareCall} {
-			stuckOp(t, "back", callVal(dead), v)
-			stuckOp(t, "back", number(1), callVal(dead), v)
+			takenOp(t, "back", opHeap(callVal(dead), v), 2)
+			takenOp(t, "back", opHeap(number(1), callVal(dead), v), 2, number(1))
 		}
 	}
+	six := append(slices.Repeat(vals(number(2)), 4), callVal(bareCall), none)
+	takenOp(t, "back", opHeap(six...), 2, six[:4]...)
 	wantsCallBelow(t, "back")
 }
 

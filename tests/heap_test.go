@@ -46,11 +46,11 @@ func TestEachStepByTheWords(t *testing.T) {
 	}
 }
 
-// P10. The call that runs has as many values as DeepAt tells, whenever. (WHENEVER.)
+// P10. The call that runs has as many values as DeepAt tells, whenever. (WHENEVER.) With any other code than CodeRuns it does not run any more.
 func TestAsManyValuesAsDeepAtTells(t *testing.T) {
-	seen, full, stuck := 0, 0, 0
+	seen := 0
 	eachHeap(func(p impl.Prog, h impl.Heap, steps int) {
-		if h.Now == -1 || !impl.DeepOk(p) {
+		if h.Code != 0 || !impl.DeepOk(p) {
 			return
 		}
 		c := h.Calls[h.Now]
@@ -59,21 +59,45 @@ func TestAsManyValuesAsDeepAtTells(t *testing.T) {
 			t.Fatalf("%q after %d: %v, not as in %v", impl.ProgText(p), steps, c, at)
 		}
 		seen++
-		full += h.Code / 3
-		if h.Code == 2 && opOf(p, h).Kind == impl.OpBack {
-			stuck++
+	})
+	if seen < 5000 {
+		t.Errorf("only %d", seen)
+	}
+}
+
+// What an operation takes is taken, and Pc is one more, where it is CodeFull, or goes back to what is Dead; where it is stuck else nothing is.
+func TestWhatIsTakenByTheLastOperation(t *testing.T) {
+	full, backs, others := 0, 0, 0
+	eachStep(func(p impl.Prog, before, after impl.Heap) {
+		if after.Code < 2 {
+			return
+		}
+		was, is, op := before.Calls[before.Now], after.Calls[before.Now], opOf(p, before)
+		pc, rest := was.Pc, len(was.Stack)
+		switch {
+		case after.Code == 3:
+			full++
+			pc, rest = pc+1, rest-p.Methods[op.A].Args
+		case op.Kind == impl.OpBack && rest >= 2 && was.Stack[rest-2].Kind == 2:
+			backs++
+			pc, rest = pc+1, rest-2
+		default:
+			others++
+		}
+		if after.Now != before.Now || is.Pc != pc || !slices.Equal(is.Stack, was.Stack[:rest]) {
+			t.Fatalf("%q: %v, then %v", impl.ProgText(p), was, is)
 		}
 	})
-	if seen < 5000 || full < 20 || stuck < 1 {
-		t.Errorf("only %d, %d of them full, %d going back to what has returned", seen, full, stuck)
+	if full < 20 || backs < 2 || others < 40 {
+		t.Errorf("%d, %d, %d", full, backs, others)
 	}
 }
 
 // P11. If DeepOk it is stuck only where a value is not of its kind, or one goes back to what has returned.
 func TestWhereItIsStuck(t *testing.T) {
 	kinds, backs, others := 0, 0, 0
-	eachHeap(func(p impl.Prog, h impl.Heap, _ int) {
-		if h.Code != 2 {
+	eachStep(func(p impl.Prog, h, after impl.Heap) {
+		if after.Code != 2 {
 			return
 		}
 		op, stack := opOf(p, h), h.Calls[h.Now].Stack
