@@ -89,31 +89,40 @@ var wants = map[string]string{
 	"poke": "cv", "back": "cv", "say": "v", "dead": "c", "where": "c",
 }
 
-// modelStep is a step by the document's words, in another way than the program's: heaps are copied, and kinds are told by their words.
-func modelStep(p impl.Prog, h impl.Heap) impl.Heap {
-	if h.Code != 0 {
-		return copyHeap(h)
+// modelTaken is the word and the A of the operation at pc, and what it takes, by the document's words; false, if it is stuck ahead of that.
+func modelTaken(p impl.Prog, method, pc int, stack []impl.Val) (string, int, []impl.Val, bool) {
+	ops := p.Methods[method].Ops
+	if pc >= len(ops) {
+		return "", 0, nil, false
 	}
-	stuck, out := copyHeap(h), copyHeap(h)
-	stuck.Code = 2
-	now := &out.Calls[out.Now]
-	ops := p.Methods[now.Method].Ops
-	if now.Pc >= len(ops) {
-		return stuck
-	}
-	op := ops[now.Pc]
+	op := ops[pc]
 	word, takes := kindRows[op.Kind-1].word, rowTakes(p, op)
-	rest := len(now.Stack) - takes
+	rest := len(stack) - takes
 	if rest < 0 || rest+kindRows[op.Kind-1].leaves > 6 {
-		return stuck
+		return "", 0, nil, false
 	}
-	taken := slices.Clone(now.Stack[rest:])
+	taken := slices.Clone(stack[rest:])
 	for i, want := range wants[word] {
 		if want == 'n' && taken[i].Kind != 1 || want == 'c' && taken[i].Kind != 2 {
-			return stuck
+			return "", 0, nil, false
 		}
 	}
-	now.Stack = now.Stack[:rest]
+	return word, op.A, taken, true
+}
+
+// modelStep is a step by the document's words, in another way than the program's: heaps are copied, and kinds are told by their words.
+func modelStep(p impl.Prog, h impl.Heap) impl.Heap {
+	out := copyHeap(h)
+	if h.Code != 0 {
+		return out
+	}
+	now := &out.Calls[out.Now]
+	word, a, taken, ok := modelTaken(p, now.Method, now.Pc, now.Stack)
+	if !ok {
+		out.Code = 2
+		return out
+	}
+	now.Stack = now.Stack[:len(now.Stack)-len(taken)]
 	now.Pc++
 	switch {
 	case word == "call" && out.Born == 30:
@@ -121,7 +130,7 @@ func modelStep(p impl.Prog, h impl.Heap) impl.Heap {
 	case word == "back" && out.Calls[taken[0].Num].Dead:
 		out.Code = 2
 	default:
-		modelDo(p, &out, word, op.A, taken)
+		modelDo(p, &out, word, a, taken)
 	}
 	return out
 }
@@ -424,17 +433,22 @@ type trace struct {
 	heaps []impl.Heap
 }
 
+// heapTrace is these heaps of one program.
+func heapTrace(p impl.Prog) trace {
+	h, _ := impl.HeapNew(p)
+	heaps := []impl.Heap{h}
+	for len(heaps) <= heapStepsSeen && h.Code == 0 {
+		h, _ = impl.HeapStep(p, h)
+		heaps = append(heaps, h)
+	}
+	return trace{p, heaps}
+}
+
 // heapTraces is made once, as it is gone through by many tests; none of them writes into it.
 var heapTraces = sync.OnceValue(func() []trace {
 	var out []trace
 	for _, p := range heapProgs() {
-		h, _ := impl.HeapNew(p)
-		heaps := []impl.Heap{h}
-		for len(heaps) <= heapStepsSeen && h.Code == 0 {
-			h, _ = impl.HeapStep(p, h)
-			heaps = append(heaps, h)
-		}
-		out = append(out, trace{p, heaps})
+		out = append(out, heapTrace(p))
 	}
 	return out
 })

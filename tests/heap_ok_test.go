@@ -164,9 +164,10 @@ func TestHeapsWhoseCallsDoNotWait(t *testing.T) {
 	}
 }
 
-// A heap of one program is none of another, nor of one that is not ok.
-func TestHeapOfAnotherProgram(t *testing.T) {
-	p, h := okHeapProg(t), okHeap()
+// otherProgs are okHeapProg, changed in one way each so that what was ok is not any more.
+func otherProgs(t *testing.T) map[string]impl.Prog {
+	t.Helper()
+	out := map[string]impl.Prog{}
 	for name, change := range map[string]func(p *impl.Prog){
 		"without methods":      func(p *impl.Prog) { p.Methods = nil },
 		"a method fewer":       func(p *impl.Prog) { p.Methods = p.Methods[:3] },
@@ -177,9 +178,17 @@ func TestHeapOfAnotherProgram(t *testing.T) {
 		"arguments at first":   func(p *impl.Prog) { p.Methods[0].Args = 1 },
 		"an operation too big": func(p *impl.Prog) { p.Methods[1].Ops[1].A = 100 },
 	} {
-		q := copyProg(p)
-		change(&q)
-		if impl.HeapOk(q, h) {
+		p := okHeapProg(t)
+		change(&p)
+		out[name] = p
+	}
+	return out
+}
+
+// A heap of one program is none of another, nor of one that is not ok.
+func TestHeapOfAnotherProgram(t *testing.T) {
+	for name, p := range otherProgs(t) {
+		if impl.HeapOk(p, okHeap()) {
 			t.Errorf("%s: ok", name)
 		}
 	}
