@@ -313,6 +313,49 @@ func modelSpot(m impl.Mach, twin int) (spot, bool) {
 	return spot{x.Page, x.At}, x.Page >= 0 && x.Page < len(m.Pages) && x.At >= 0 && x.At < len(m.Pages[x.Page].Frames)
 }
 
+// modelAllThere says whether each twin and each frame that a machine tells of, wherever it does, is there.
+func modelAllThere(m impl.Mach) bool {
+	var told []int
+	tell := func(number int, lists ...[]impl.Val) {
+		if number != -1 {
+			told = append(told, number)
+		}
+		for _, v := range slices.Concat(lists...) {
+			if v.Kind == 2 {
+				told = append(told, v.Num)
+			}
+		}
+	}
+	for _, page := range m.Pages {
+		tell(page.Base)
+		for _, f := range page.Frames {
+			tell(f.Twin, f.Temps, f.Stack)
+		}
+	}
+	for number, x := range m.Twins {
+		told = append(told, number)
+		if x.Page == -1 {
+			tell(x.Left.Sender, x.Left.Temps, x.Left.Stack)
+		}
+	}
+	return !slices.ContainsFunc(told, func(number int) bool {
+		_, ok := modelSpot(m, number)
+		return !ok
+	})
+}
+
+// modelBorn is how many were born at least: all frames, and all twins on no page.
+func modelBorn(m impl.Mach) int {
+	calls := 0
+	for _, page := range m.Pages {
+		calls += len(page.Frames)
+	}
+	for _, x := range m.Twins {
+		calls = counted(calls, x.Page == -1)
+	}
+	return calls
+}
+
 // modelCall is the call at a spot, and where the one is that called it: nowhere, if nobody did; false, if that is not there.
 func modelCall(m impl.Mach, s spot) (impl.Call, []spot, bool) {
 	var c impl.Call
@@ -336,7 +379,7 @@ func modelCall(m impl.Mach, s spot) (impl.Call, []spot, bool) {
 
 // modelMachView is MachView of any machine, found in another way: calls are told by where they are.
 func modelMachView(m impl.Mach) []impl.Call {
-	if m.Now < 0 || m.Now >= len(m.Pages) || len(m.Pages[m.Now].Frames) == 0 {
+	if !modelAllThere(m) || m.Now < 0 || m.Now >= len(m.Pages) || len(m.Pages[m.Now].Frames) == 0 {
 		return nil
 	}
 	list := []spot{{m.Now, len(m.Pages[m.Now].Frames) - 1}}
@@ -375,7 +418,7 @@ func modelMachView(m impl.Mach) []impl.Call {
 
 // modelMachDeep is MachDeep of any machine.
 func modelMachDeep(m impl.Mach) int {
-	if m.Now < 0 || m.Now >= len(m.Pages) || len(m.Pages[m.Now].Frames) == 0 {
+	if !modelAllThere(m) || m.Now < 0 || m.Now >= len(m.Pages) || len(m.Pages[m.Now].Frames) == 0 {
 		return 0
 	}
 	at := spot{m.Now, len(m.Pages[m.Now].Frames) - 1}

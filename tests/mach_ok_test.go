@@ -92,11 +92,10 @@ func endMach(m *impl.Mach) {
 	m.Now, m.Code = -1, 1
 }
 
-// Only the twins are held against Born, as the document says it; so there may be more frames.
 func TestMachinesThatAreOk(t *testing.T) {
 	for name, change := range map[string]func(m *impl.Mach){
 		"as it is":              func(m *impl.Mach) {},
-		"as many twins as born": func(m *impl.Mach) { m.Born = 4 },
+		"as many calls as born": func(m *impl.Mach) { m.Born = 6 },
 		"all born":              func(m *impl.Mach) { m.Born = 30 },
 		"nothing said":          func(m *impl.Mach) { m.Said = nil },
 		"all kinds said":        func(m *impl.Mach) { m.Said = vals(none, number(0), number(999), callVal(0), callVal(3)) },
@@ -167,6 +166,8 @@ func TestMachinesWhoseNumbersAreNotOk(t *testing.T) {
 		"none born, ended":          func(m *impl.Mach) { endMach(m); m.Twins, m.Born = nil, 0 },
 		"fewer than none born":      func(m *impl.Mach) { m.Born = -1 },
 		"too many born":             func(m *impl.Mach) { m.Born = 31 },
+		"more calls than born":      func(m *impl.Mach) { m.Born = 5 },
+		"more wait than were born":  func(m *impl.Mach) { m.Born = 4 },
 		"more twins than born":      func(m *impl.Mach) { m.Born = 3 },
 		"too many twins": func(m *impl.Mach) {
 			m.Born, m.Twins = 30, append(m.Twins, slices.Repeat(m.Twins[deadTwin:deadTwin+1], 27)...)
@@ -374,7 +375,77 @@ func TestMachineOfAnotherProgram(t *testing.T) {
 	}
 }
 
-// Machines that programs run to, and others that are in form, are ok; with fewer born than twins, or a page twice, they are not.
+// P54, P51. No more calls than Born are on an ok machine, in whichever way they wait: so flushed, and run, it is ok.
+func TestNoMoreCallsThanBorn(t *testing.T) {
+	p := readProg(t, "method 0 0", "here", "sender", "drop", "call 0", "ret")
+	frames := func(twins ...int) []impl.Frame {
+		var out []impl.Frame
+		for _, twin := range twins {
+			out = append(out, impl.Frame{Twin: twin})
+		}
+		return out
+	}
+	one := func(base int, frames []impl.Frame, twins ...impl.Twin) impl.Mach {
+		return impl.Mach{Cells: 60, Pages: []impl.Page{{Base: base, Frames: frames}}, Order: []int{0}, Twins: twins}
+	}
+	dead := impl.Twin{Page: -1, Left: impl.Call{Sender: -1, Dead: true}}
+	first := impl.Twin{Page: -1, Left: impl.Call{Sender: -1}}
+	second := impl.Twin{Page: -1, Left: impl.Call{Sender: 0}}
+	two := one(-1, frames(-1, 0), impl.Twin{At: 1})
+	two.Pages, two.Order, two.Now = append(two.Pages, impl.Page{Base: 0, Frames: frames(-1, -1)}), []int{0, 1}, 1
+	ended := one(-1, nil, dead, dead)
+	ended.Now, ended.Code = -1, 1
+	for name, x := range map[string]struct {
+		m     impl.Mach
+		calls int
+	}{
+		"a frame":                           {one(-1, frames(-1)), 1},
+		"two frames":                        {one(-1, frames(-1, -1)), 2},
+		"six frames":                        {one(-1, frames(-1, -1, -1, -1, -1, -1)), 6},
+		"two frames, one with a twin":       {one(-1, frames(0, -1), impl.Twin{}), 2},
+		"two frames with twins":             {one(-1, frames(1, 0), impl.Twin{At: 1}, impl.Twin{}), 2},
+		"a frame, and who called it":        {one(0, frames(-1), first), 2},
+		"a frame, and two who wait":         {one(1, frames(-1), first, second), 3},
+		"a frame with a twin, and two more": {one(1, frames(2), first, second, impl.Twin{}), 3},
+		"frames on two pages":               {two, 4},
+		"a frame, and one Dead":             {one(-1, frames(-1), dead), 2},
+		"two frames, and one Dead":          {one(-1, frames(-1, -1), dead), 3},
+		"two frames, and three Dead":        {one(-1, frames(-1, -1), dead, dead, dead), 5},
+		"a frame, one waits, one is Dead":   {one(0, frames(-1), first, dead), 3},
+		"a frame with a twin, and one Dead": {one(-1, frames(1), dead, impl.Twin{}), 2},
+		"ended, and two Dead":               {ended, 2},
+	} {
+		for born := -1; born <= 31; born++ {
+			m := copyMach(x.m)
+			if m.Born = born; born < x.calls || born > 30 {
+				notOk(t, name, p, m)
+				continue
+			}
+			staysOk(t, name, p, m)
+		}
+	}
+}
+
+// staysOk asks for an ok machine, that is ok when it is flushed, page by page, and run.
+func staysOk(t *testing.T, name string, p impl.Prog, m impl.Mach) {
+	t.Helper()
+	flushed := m
+	for page := range m.Pages {
+		flushed = flushMach(t, p, flushed, page)
+		for _, x := range []impl.Mach{flushed, flushMach(t, p, m, page), runMach(t, p, flushed, 3)} {
+			if !impl.MachOk(p, x) || len(x.Twins) > x.Born {
+				t.Fatalf("%s: %v, then %v", name, m, x)
+			}
+		}
+	}
+	for _, steps := range []int{0, 1, 2, 3, 50, 400} {
+		if x := runMach(t, p, m, steps); !impl.MachOk(p, x) || impl.MachDeep(x) > x.Born {
+			t.Fatalf("%s: %v, after %d %v", name, m, steps, x)
+		}
+	}
+}
+
+// Machines that programs run to, and others that are in form, are ok; with fewer born than calls, or a page twice, they are not.
 func TestManyMachinesAreOk(t *testing.T) {
 	eachMachAndOdd(func(p impl.Prog, m impl.Mach) {
 		if !impl.MachOk(p, m) {
@@ -383,8 +454,10 @@ func TestManyMachinesAreOk(t *testing.T) {
 	})
 	for _, x := range oddMachs() {
 		bad := copyMach(x.m)
-		bad.Born = len(bad.Twins) - 1
+		bad.Born = modelBorn(bad) - 1
 		notOk(t, "fewer born", x.p, bad)
+		bad.Born++
+		staysOk(t, "as many born", x.p, bad)
 		bad = copyMach(x.m)
 		bad.Cells = modelUsed(bad.Pages[bad.Now]) - 1
 		notOk(t, "fewer cells", x.p, bad)

@@ -164,60 +164,124 @@ func TestViewOfFramesAndTwins(t *testing.T) {
 	}
 }
 
-// Neither asks for an ok machine: if something that they are told of is not there nothing is seen, and none waits.
-func TestViewAndDeepOfWhatIsNotThere(t *testing.T) {
-	for name, x := range map[string]struct {
-		change func(m *impl.Mach)
-		deep   int
-	}{
-		"Now is none":                {func(m *impl.Mach) { m.Now = -1 }, 0},
-		"Now below":                  {func(m *impl.Mach) { m.Now = -2 }, 0},
-		"Now past the end":           {func(m *impl.Mach) { m.Now = 2 }, 0},
-		"Now far off":                {func(m *impl.Mach) { m.Now = math.MaxInt }, 0},
-		"Now has no frames":          {func(m *impl.Mach) { m.Pages[0].Frames = nil }, 0},
-		"no pages":                   {func(m *impl.Mach) { m.Pages = nil }, 0},
-		"no twins":                   {func(m *impl.Mach) { m.Twins = nil }, 0},
-		"a Base past the end":        {func(m *impl.Mach) { m.Pages[0].Base = 2 }, 0},
-		"a Base below":               {func(m *impl.Mach) { m.Pages[0].Base = -2 }, 0},
-		"a Base far off":             {func(m *impl.Mach) { m.Pages[1].Base = math.MaxInt }, 0},
-		"a Base further on":          {func(m *impl.Mach) { m.Pages[1].Base = math.MinInt }, 0},
-		"a twin on no such page":     {func(m *impl.Mach) { m.Twins[0].Page = 2 }, 0},
-		"a twin on a page below":     {func(m *impl.Mach) { m.Twins[0].Page = -2 }, 0},
-		"a twin at no frame":         {func(m *impl.Mach) { m.Twins[0].At = 2 }, 0},
-		"a twin at a frame below":    {func(m *impl.Mach) { m.Twins[0].At = -1 }, 0},
-		"a twin at a frame far off":  {func(m *impl.Mach) { m.Twins[0].At = math.MaxInt }, 0},
-		"who called a twin":          {func(m *impl.Mach) { m.Pages[1].Base, m.Twins[1].Left.Sender, m.Twins[1].Left.Dead = 1, 2, false }, 0},
-		"who called a twin, below":   {func(m *impl.Mach) { m.Pages[1].Base, m.Twins[1].Left.Sender, m.Twins[1].Left.Dead = 1, -2, false }, 0},
-		"who called a Dead twin":     {func(m *impl.Mach) { m.Twins[1].Left.Sender = 7 }, 3},
-		"a temp":                     {func(m *impl.Mach) { m.Pages[0].Frames[0].Temps[1] = callVal(2) }, 3},
-		"a temp below":               {func(m *impl.Mach) { m.Pages[0].Frames[0].Temps[1] = callVal(-1) }, 3},
-		"a value":                    {func(m *impl.Mach) { m.Pages[1].Frames[1].Stack[0] = callVal(math.MaxInt) }, 3},
-		"a value of the lowest":      {func(m *impl.Mach) { m.Pages[1].Frames[0].Stack = vals(none, callVal(2)) }, 3},
-		"a temp of a twin":           {func(m *impl.Mach) { m.Twins[1].Left.Temps[0] = callVal(5) }, 3},
-		"a value of a twin":          {func(m *impl.Mach) { m.Twins[1].Left.Stack = vals(callVal(math.MinInt)) }, 3},
-		"a value tells no such page": {func(m *impl.Mach) { m.Twins[1] = impl.Twin{Page: 4} }, 3},
-	} {
-		m := threeFrames()
-		x.change(&m)
-		if view, deep := impl.MachView(m), impl.MachDeep(m); len(view) != 0 || deep != x.deep {
-			t.Errorf("%s: %v, %d", name, view, deep)
-		}
-	}
-	if len(impl.MachView(impl.Mach{})) != 0 || impl.MachDeep(impl.Mach{}) != 0 {
-		t.Error("of nothing")
+// nothingSeen asks that of a machine nothing is seen, and none waits.
+func nothingSeen(t *testing.T, name string, m impl.Mach) {
+	t.Helper()
+	if view, deep := impl.MachView(m), impl.MachDeep(m); len(view) != 0 || deep != 0 {
+		t.Errorf("%s: %v, %d", name, view, deep)
 	}
 }
 
-// What one does not come to is not asked for.
+// P56, P57. Neither asks for an ok machine: if something that they are told of is not there nothing is seen, and none waits.
+func TestViewAndDeepOfWhatIsNotThere(t *testing.T) {
+	for name, change := range map[string]func(m *impl.Mach){
+		"Now is none":                func(m *impl.Mach) { m.Now = -1 },
+		"Now below":                  func(m *impl.Mach) { m.Now = -2 },
+		"Now past the end":           func(m *impl.Mach) { m.Now = 2 },
+		"Now far off":                func(m *impl.Mach) { m.Now = math.MaxInt },
+		"Now has no frames":          func(m *impl.Mach) { m.Pages[0].Frames = nil },
+		"no pages":                   func(m *impl.Mach) { m.Pages = nil },
+		"no twins":                   func(m *impl.Mach) { m.Twins = nil },
+		"a Base past the end":        func(m *impl.Mach) { m.Pages[0].Base = 2 },
+		"a Base below":               func(m *impl.Mach) { m.Pages[0].Base = -2 },
+		"a Base far off":             func(m *impl.Mach) { m.Pages[1].Base = math.MaxInt },
+		"a Base further on":          func(m *impl.Mach) { m.Pages[1].Base = math.MinInt },
+		"a twin on no such page":     func(m *impl.Mach) { m.Twins[0].Page = 2 },
+		"a twin on a page below":     func(m *impl.Mach) { m.Twins[0].Page = -2 },
+		"a twin at no frame":         func(m *impl.Mach) { m.Twins[0].At = 2 },
+		"a twin at a frame below":    func(m *impl.Mach) { m.Twins[0].At = -1 },
+		"a twin at a frame far off":  func(m *impl.Mach) { m.Twins[0].At = math.MaxInt },
+		"who called a twin":          func(m *impl.Mach) { m.Pages[1].Base, m.Twins[1].Left.Sender, m.Twins[1].Left.Dead = 1, 2, false },
+		"who called a twin, below":   func(m *impl.Mach) { m.Pages[1].Base, m.Twins[1].Left.Sender, m.Twins[1].Left.Dead = 1, -2, false },
+		"who called a Dead twin":     func(m *impl.Mach) { m.Twins[1].Left.Sender = 7 },
+		"a temp":                     func(m *impl.Mach) { m.Pages[0].Frames[0].Temps[1] = callVal(2) },
+		"a temp below":               func(m *impl.Mach) { m.Pages[0].Frames[0].Temps[1] = callVal(-1) },
+		"a value":                    func(m *impl.Mach) { m.Pages[1].Frames[1].Stack[0] = callVal(math.MaxInt) },
+		"a value of the lowest":      func(m *impl.Mach) { m.Pages[1].Frames[0].Stack = vals(none, callVal(2)) },
+		"a temp of a twin":           func(m *impl.Mach) { m.Twins[1].Left.Temps[0] = callVal(5) },
+		"a value of a twin":          func(m *impl.Mach) { m.Twins[1].Left.Stack = vals(callVal(math.MinInt)) },
+		"a value tells no such page": func(m *impl.Mach) { m.Twins[1] = impl.Twin{Page: 4} },
+	} {
+		m := threeFrames()
+		change(&m)
+		nothingSeen(t, name, m)
+	}
+	nothingSeen(t, "of nothing", impl.Mach{})
+}
+
+// aside is threeFrames, with what one does not come to: a page of two frames, one without, and two twins, one of them on that page.
+func aside() impl.Mach {
+	m := threeFrames()
+	m.Pages = append(m.Pages,
+		impl.Page{Base: 3, Frames: []impl.Frame{{Method: 1, Twin: 2, Temps: vals(callVal(0)), Stack: vals(callVal(3))}, {Method: 2, Twin: -1}}},
+		impl.Page{Base: -1})
+	m.Twins = append(m.Twins, impl.Twin{Page: 2}, impl.Twin{Page: -1, Left: impl.Call{Method: 1, Temps: vals(callVal(2)), Stack: vals(callVal(1)), Sender: 2}})
+	return m
+}
+
+// What is told of has to be there though one does not come to it.
+func TestViewAndDeepOfWhatIsNotThereAside(t *testing.T) {
+	if view := impl.MachView(aside()); !sameCalls(view, impl.MachView(threeFrames())) || impl.MachDeep(aside()) != 3 {
+		t.Fatalf("%v", view)
+	}
+	for _, place := range []int{math.MinInt, -2, 4, 5, math.MaxInt} {
+		for name, change := range map[string]func(m *impl.Mach){
+			"the twin of the frame that runs": func(m *impl.Mach) { m.Pages[0].Frames[0].Twin = place },
+			"the twin of one that waits":      func(m *impl.Mach) { m.Pages[1].Frames[0].Twin = place },
+			"the twin of one aside":           func(m *impl.Mach) { m.Pages[2].Frames[1].Twin = place },
+			"a temp of one aside":             func(m *impl.Mach) { m.Pages[2].Frames[0].Temps[0] = callVal(place) },
+			"a value of one aside":            func(m *impl.Mach) { m.Pages[2].Frames[0].Stack[0] = callVal(place) },
+			"a Base aside":                    func(m *impl.Mach) { m.Pages[2].Base = place },
+			"a Base without frames":           func(m *impl.Mach) { m.Pages[3].Base = place },
+			"the page of a twin":              func(m *impl.Mach) { m.Twins[2].Page = place },
+			"the frame of a twin":             func(m *impl.Mach) { m.Twins[2].At = place },
+			"who called a twin":               func(m *impl.Mach) { m.Twins[3].Left.Sender = place },
+			"a temp of a twin":                func(m *impl.Mach) { m.Twins[3].Left.Temps[0] = callVal(place) },
+			"a value of a twin":               func(m *impl.Mach) { m.Twins[3].Left.Stack[0] = callVal(place) },
+		} {
+			m := aside()
+			change(&m)
+			nothingSeen(t, name, m)
+		}
+	}
+	for name, change := range map[string]func(m *impl.Mach){
+		"a frame of a page without frames": func(m *impl.Mach) { m.Twins[2].Page = 3 },
+		"a frame below all":                func(m *impl.Mach) { m.Twins[2].At = -1 },
+		"a frame behind the end":           func(m *impl.Mach) { m.Twins[2].At = 2 },
+		"a call that is nobody, a temp":    func(m *impl.Mach) { m.Twins[3].Left.Temps[0] = callVal(-1) },
+		"a call that is nobody, a value":   func(m *impl.Mach) { m.Pages[2].Frames[0].Stack[0] = callVal(-1) },
+	} {
+		m := aside()
+		change(&m)
+		nothingSeen(t, name, m)
+	}
+}
+
+// What is there is enough, ok or not: a frame and a twin need not tell one another, nor Order, nor Said, be in form.
 func TestViewDoesNotAskForWhatIsNotTold(t *testing.T) {
 	want := impl.MachView(threeFrames())
-	m := threeFrames()
-	m.Twins = append(m.Twins, impl.Twin{Page: 9, At: 9}, impl.Twin{Page: -1, Left: impl.Call{Sender: 50, Temps: vals(callVal(60))}})
-	m.Pages = append(m.Pages, impl.Page{Base: 70, Frames: []impl.Frame{{Temps: vals(callVal(80))}}})
-	if view := impl.MachView(m); !sameCalls(view, want) || impl.MachDeep(m) != 3 {
-		t.Errorf("%v, not %v", view, want)
+	for name, change := range map[string]func(m *impl.Mach){
+		"another frame's twin":   func(m *impl.Mach) { m.Pages[1].Frames[0].Twin = 0 },
+		"a twin on no page":      func(m *impl.Mach) { m.Pages[0].Frames[0].Twin = 1 },
+		"a frame without a twin": func(m *impl.Mach) { m.Pages[1].Frames[1].Twin = -1 },
+		"a frame with two":       func(m *impl.Mach) { m.Twins = append(m.Twins, impl.Twin{Page: 1, At: 1}) },
+		"no page, and a frame":   func(m *impl.Mach) { m.Twins[1].At = 9 },
+		"a page, and a call left": func(m *impl.Mach) {
+			m.Twins[0].Left = impl.Call{Sender: 9, Temps: vals(callVal(9)), Stack: vals(callVal(-1))}
+		},
+		"a Base without frames": func(m *impl.Mach) { m.Pages = append(m.Pages, impl.Page{Base: 1}) },
+		"Order":                 func(m *impl.Mach) { m.Order = []int{9, -9} },
+		"no Order":              func(m *impl.Mach) { m.Order = nil },
+		"Said":                  func(m *impl.Mach) { m.Said = vals(callVal(9), callVal(-9)) },
+		"Cells, Born and Code":  func(m *impl.Mach) { m.Cells, m.Born, m.Code = -9, -9, 9 },
+	} {
+		m := threeFrames()
+		change(&m)
+		if view := impl.MachView(m); !sameCalls(view, want) || impl.MachDeep(m) != 3 {
+			t.Errorf("%s: %v, not %v", name, view, want)
+		}
 	}
-	m = threeFrames()
+	m := threeFrames()
 	m.Pages[1].Frames[0].Temps = vals(impl.Val{Kind: 3, Num: 9}, impl.Val{Num: 9}, number(5000))
 	want[3].Temps = m.Pages[1].Frames[0].Temps
 	if view := impl.MachView(m); !sameCalls(view, want) {
@@ -245,8 +309,8 @@ func TestMachDeepOfAnyMachine(t *testing.T) {
 		if size > 30 {
 			want = 0
 		}
-		page := impl.Mach{Pages: []impl.Page{{Base: -1, Frames: make([]impl.Frame, size)}}}
-		off := impl.Mach{Pages: []impl.Page{{Base: size - 2, Frames: make([]impl.Frame, 1)}}}
+		page := impl.Mach{Pages: []impl.Page{{Base: -1, Frames: slices.Repeat([]impl.Frame{{Twin: -1}}, size)}}}
+		off := impl.Mach{Pages: []impl.Page{{Base: size - 2, Frames: []impl.Frame{{Twin: -1}}}}}
 		for i := range size - 1 {
 			off.Twins = append(off.Twins, impl.Twin{Page: -1, Left: impl.Call{Sender: i - 1}})
 		}
@@ -258,37 +322,51 @@ func TestMachDeepOfAnyMachine(t *testing.T) {
 	}
 }
 
-// wildMach is a machine that is seldom ok.
+// wildMach is a machine that is seldom ok, though most that it tells of is there.
 func wildMach(r *rand.Rand) impl.Mach {
 	m := impl.Mach{Cells: 10 + r.Intn(60), Now: r.Intn(5) - 1, Born: r.Intn(40) - 2, Code: r.Intn(6) - 1}
+	m.Pages, m.Twins = make([]impl.Page, r.Intn(5)), make([]impl.Twin, r.Intn(6))
+	// A place is seldom none of these.
+	place := func(size int) int {
+		if size == 0 || r.Intn(60) == 0 {
+			return []int{-2, -1, size, size + 1}[r.Intn(4)]
+		}
+		return r.Intn(size)
+	}
+	twin := func() int {
+		if len(m.Twins) == 0 || r.Intn(3) == 0 {
+			return -1
+		}
+		return place(len(m.Twins))
+	}
 	wild := func() []impl.Val {
 		var out []impl.Val
 		for range r.Intn(3) {
-			out = append(out, impl.Val{Kind: r.Intn(4), Num: r.Intn(6) - 1})
+			out = append(out, impl.Val{Kind: r.Intn(4), Num: place(len(m.Twins))})
 		}
 		return out
 	}
-	for range r.Intn(5) {
-		page := impl.Page{Base: r.Intn(7) - 2}
+	for i := range m.Pages {
+		m.Pages[i].Base = twin()
 		for range r.Intn(4) {
-			page.Frames = append(page.Frames, impl.Frame{Method: r.Intn(3), Pc: r.Intn(3), Twin: r.Intn(7) - 2, Temps: wild(), Stack: wild()})
+			m.Pages[i].Frames = append(m.Pages[i].Frames, impl.Frame{Method: r.Intn(3), Pc: r.Intn(3), Twin: twin(), Temps: wild(), Stack: wild()})
 		}
-		m.Pages = append(m.Pages, page)
 		m.Order = append(m.Order, r.Intn(5))
 	}
-	for range r.Intn(6) {
-		x := impl.Twin{Page: r.Intn(5) - 1, At: r.Intn(3)}
-		if r.Intn(2) == 0 {
-			x = impl.Twin{Page: -1, Left: impl.Call{Method: r.Intn(3), Temps: wild(), Stack: wild(), Sender: r.Intn(7) - 1, Dead: r.Intn(5) == 0}}
+	for i := range m.Twins {
+		m.Twins[i] = impl.Twin{Page: -1, Left: impl.Call{Method: r.Intn(3), Temps: wild(), Stack: wild(), Sender: twin(), Dead: r.Intn(5) == 0}}
+		if page := place(len(m.Pages)); page >= 0 && page < len(m.Pages) && r.Intn(2) == 0 {
+			m.Twins[i] = impl.Twin{Page: page, At: place(len(m.Pages[page].Frames))}
+		} else if r.Intn(60) == 0 {
+			m.Twins[i] = impl.Twin{Page: page, At: r.Intn(2)}
 		}
-		m.Twins = append(m.Twins, x)
 	}
 	return m
 }
 
 func TestViewAndDeepOfWildMachines(t *testing.T) {
 	r := rand.New(rand.NewSource(9))
-	seen, deep := 0, 0
+	seen, deep, lost := 0, 0, 0
 	p := readProg(t, "method 0 0", "call 0", "ret")
 	for range 60000 {
 		m := wildMach(r)
@@ -296,13 +374,13 @@ func TestViewAndDeepOfWildMachines(t *testing.T) {
 		if !sameCalls(view, modelMachView(m)) || impl.MachDeep(m) != modelMachDeep(m) {
 			t.Fatalf("of %v\n%v, not\n%v", m, view, modelMachView(m))
 		}
-		seen, deep = counted(seen, len(view) > 1), counted(deep, impl.MachDeep(m) > 1)
+		seen, deep, lost = counted(seen, len(view) > 1), counted(deep, impl.MachDeep(m) > 1), counted(lost, !modelAllThere(m))
 		if !impl.MachOk(p, m) {
 			notOk(t, "wild", p, m)
 		}
 	}
-	if seen < 1000 || deep < 1000 {
-		t.Errorf("%d, %d", seen, deep)
+	if seen < 1000 || deep < 1000 || lost < 1000 {
+		t.Errorf("%d, %d, %d", seen, deep, lost)
 	}
 }
 
