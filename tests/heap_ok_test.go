@@ -35,6 +35,9 @@ func checkHeapOk(t *testing.T, name string, want bool, change func(h *impl.Heap)
 	if ran || stepped || trimmed || !sameHeap(out, impl.Heap{}) || !sameHeap(one, impl.Heap{}) || !sameHeap(cut, impl.Heap{}) {
 		t.Errorf("%s: %v, %v, %v", name, out, one, cut)
 	}
+	if m, ok := impl.MoveIn(p, h, 2, 30); ok || !sameMach(m, impl.Mach{}) {
+		t.Errorf("%s, moved in: %v, %v", name, m, ok)
+	}
 	impl.HeapView(h)
 	impl.HeapDeep(h)
 }

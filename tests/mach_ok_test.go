@@ -64,6 +64,12 @@ func notOk(t *testing.T, name string, p impl.Prog, m impl.Mach) {
 			t.Errorf("%s, page %d flushed: %v, %v", name, page, out, ok)
 		}
 	}
+	if out, ok := impl.MoveOut(p, m); ok || !sameHeap(out, impl.Heap{}) {
+		t.Errorf("%s, moved out: %v, %v", name, out, ok)
+	}
+	if out, ok := impl.MoveTo(p, m, 2, 30); ok || !sameMach(out, impl.Mach{}) {
+		t.Errorf("%s, moved: %v, %v", name, out, ok)
+	}
 	impl.MachView(m)
 	impl.MachDeep(m)
 	impl.MachFrames(m)
