@@ -70,6 +70,9 @@ func notOk(t *testing.T, name string, p impl.Prog, m impl.Mach) {
 	if out, ok := impl.MoveTo(p, m, 2, 30); ok || !sameMach(out, impl.Mach{}) {
 		t.Errorf("%s, moved: %v, %v", name, out, ok)
 	}
+	noTurns(t, name, p, m)
+	noTurns(t, name, p, m, turnRun(1), turnFlush(0), turnMove(2))
+	noTurns(t, name, p, m, turnRun(-1), impl.Turn{})
 	impl.MachView(m)
 	impl.MachDeep(m)
 	impl.MachFrames(m)
