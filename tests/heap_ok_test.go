@@ -38,6 +38,7 @@ func checkHeapOk(t *testing.T, name string, want bool, change func(h *impl.Heap)
 	if m, ok := impl.MoveIn(p, h, 2, 30); ok || !sameMach(m, impl.Mach{}) {
 		t.Errorf("%s, moved in: %v, %v", name, m, ok)
 	}
+	noWalkOfHeap(t, name, p, h)
 	impl.HeapView(h)
 	impl.HeapDeep(h)
 }

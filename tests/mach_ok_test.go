@@ -73,6 +73,7 @@ func notOk(t *testing.T, name string, p impl.Prog, m impl.Mach) {
 	noTurns(t, name, p, m)
 	noTurns(t, name, p, m, turnRun(1), turnFlush(0), turnMove(2))
 	noTurns(t, name, p, m, turnRun(-1), impl.Turn{})
+	noWalkOfMach(t, name, p, m)
 	impl.MachView(m)
 	impl.MachDeep(m)
 	impl.MachFrames(m)
