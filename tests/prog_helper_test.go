@@ -133,3 +133,30 @@ func longestProg() impl.Prog {
 func longestText() string {
 	return strings.Repeat("method 0 4\n"+strings.Repeat("zero 13\n", 14), 4)
 }
+
+// eachKindText is a program with an operation of each kind.
+const eachKindText = "method 0 3\nnum 0\nnum 99\ntemp 2\nset 0\ndrop\nadd\nsame\njump 11\nzero 0\ncall 1\nret\nhere\n" +
+	"method 1 2\nsender\npeek 3\npoke 3\nback\nsay\ndead\nwhere\n" +
+	"method 2 4\n"
+
+// noProgTexts are texts that are none of a program.
+func noProgTexts() []string {
+	return []string{
+		"", "\n", " ", "m", "method", "method\n", "method 0\n", "method 0 \n", "method 0 0", "method 0 0 \n", "method 0 0 0\n",
+		"method  0 0\n", " method 0 0\n", "\nmethod 0 0\n", "method 0 0\n\n", "method 0 0\r\n", "method\t0 0\n", "Method 0 0\n",
+		"methods 0 0\n", "method 00 0\n", "method 0 01\n", "method -0 0\n", "method +0 0\n", "method 0 -1\n", "method 0 5\n",
+		"method 1 1\n", "method 0 0\nmethod 2 1\n", "method 0 0\nmethod 3 3\n", "method 0 0\nmethod -1 0\n",
+		"ret\n", "ret\nmethod 0 0\n", "method 0 0\nret", "method 0 0\nret \n", "method 0 0\n ret\n", "method 0 0\nret 0\n",
+		"method 0 0\nret ret\n", "method 0 0\nret\n\nret\n", "method 0 0\nRET\n", "method 0 0\nre\n", "method 0 0\nrets\n", "method 0 0\n0\n", "method 0 0\n 0\n",
+		"method 0 0\nnum\n", "method 0 0\nnum \n", "method 0 0\nnum 100\n", "method 0 0\nnum -1\n", "method 0 0\nnum 07\n", "method 0 0\nnum 1 1\n",
+		"method 0 0\nnum 0x1\n", "method 0 0\nnum 1.0\n", "method 0 0\nnum 1e1\n", "method 0 0\nnum 1_0\n", "method 0 0\nnum\u00a01\n",
+		"method 0 0\nnum \u0661\n", "method 0 0\nnum \uff11\n", "method 0 0\nn\u00fcm 1\n", "method 0 0\nnum 1\u2028", "\ufeffmethod 0 0\n",
+		"method 0 0\nnum 18446744073709551616\n", "method 0 0\nnum 18446744073709551617\n", "method 0 0\nnum 4294967297\n",
+		"method 0 0\nnum 1\x00\n", "method 0 0\nnum \xff\n", "method 0 0\n\xffret\n", "method 0 0\xe2\x82\n",
+		"method 0 1\ntemp 1\n", "method 0 0\ntemp 0\n", "method 0 1\nset 1\n", "method 0 0\njump 1\n", "method 0 0\nzero 1\n", "method 0 0\ncall 1\n",
+		"method 0 4\nhere\npeek 4\n", "method 0 4\nhere\nnum 1\npoke 4\n", "method 0 0\nwhat\n",
+		strings.Repeat("method 0 0\n", 5), "method 0 0\n" + strings.Repeat("here\n", 15),
+		longestText() + "\n", longestText() + "here\n", "method 0 0\nnum " + strings.Repeat("0", 700) + "\n", strings.Repeat("m", 701),
+		strings.Repeat(longestText(), 2), strings.Repeat("\xff", 1<<16),
+	}
+}
